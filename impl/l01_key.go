@@ -103,7 +103,7 @@ func ParseKey(text string) IntResult {
 }
 
 func KeysIn(from int64, to int64) IntsResult {
-	if from < 0 || from > MaxKey+1 || to < 0 || to > MaxKey+1 {
+	if !boundsFit(from, to) {
 		return IntsResult{Code: ErrRange}
 	}
 	var list []int64
@@ -113,6 +113,11 @@ func KeysIn(from int64, to int64) IntsResult {
 		}
 	}
 	return IntsResult{List: list}
+}
+
+// boundsFit lets in the number behind the last key, so that what ends there has all keys.
+func boundsFit(from int64, to int64) bool {
+	return from >= 0 && from <= MaxKey+1 && to >= 0 && to <= MaxKey+1
 }
 
 func firstOf(kind int64) int64 {
