@@ -843,12 +843,12 @@ func askColumns(s impl.Store, key int64) columnAnswers {
 		part, impl.JoinStores(impl.PartStore(s, key, 200).Store, part.Store)}
 }
 
-// P1: whatever was asked ahead of it, and beside it, an answer is the same; the order of a map is not to be seen.
-func TestColumnAnswersHangOnArguments(t *testing.T) {
-	s := madeStore(rand.New(rand.NewSource(5)), 150)
-	first := map[int64]columnAnswers{}
+// checkSteady asks at all keys, and again the other way round from four sides at once: nothing may have changed.
+func checkSteady(t *testing.T, ask func(key int64) any) {
+	t.Helper()
+	first := map[int64]any{}
 	for key := int64(-1); key <= 201; key++ {
-		first[key] = askColumns(s, key)
+		first[key] = ask(key)
 	}
 	var wait sync.WaitGroup
 	for range 4 {
@@ -856,11 +856,17 @@ func TestColumnAnswersHangOnArguments(t *testing.T) {
 		go func() {
 			defer wait.Done()
 			for key := int64(201); key >= -1; key-- {
-				if !reflect.DeepEqual(askColumns(s, key), first[key]) {
+				if !reflect.DeepEqual(ask(key), first[key]) {
 					t.Errorf("the answers at %d changed", key)
 				}
 			}
 		}()
 	}
 	wait.Wait()
+}
+
+// P1: whatever was asked ahead of it, and beside it, an answer is the same; the order of a map is not to be seen.
+func TestColumnAnswersHangOnArguments(t *testing.T) {
+	s := madeStore(rand.New(rand.NewSource(5)), 150)
+	checkSteady(t, func(key int64) any { return askColumns(s, key) })
 }
