@@ -651,41 +651,55 @@ func TestScanAllKeys(t *testing.T) {
 	}
 }
 
-// A fault of the store comes first, ahead of all that is wrong with the numbers.
-func TestPhasesAskTheStore(t *testing.T) {
-	for _, s := range []impl.Store{
+// faultyStores have each one thing that is not right, and nothing else.
+func faultyStores() []impl.Store {
+	return []impl.Store{
 		changed(func(s *impl.Store) { s.Cells[1].Key = 1 }), changed(func(s *impl.Store) { s.Cells[5].Value = 10000 }),
 		changed(func(s *impl.Store) { s.Cells = s.Cells[1:] }), changed(func(s *impl.Store) { s.Locks[2].Primary = math.MinInt64 }),
 		changed(func(s *impl.Store) { s.Locks[0], s.Locks[1] = s.Locks[1], s.Locks[0] }), changed(func(s *impl.Store) { s.Writes[3].Start = 2 }),
 		changed(func(s *impl.Store) { s.Writes[8].Commit = math.MaxInt64 }), changed(func(s *impl.Store) { s.Writes[4].Kind = 3 }),
+		changed(func(s *impl.Store) { s.Locks[1].Start = 0 }),
 		{Cells: fullCells(201)}, {Locks: manyLocks(201)}, {Writes: fullWrites(201)}, {Locks: manyLocks(200)},
-	} {
+	}
+}
+
+// checkFaultFirst asks of each store that has a fault, at numbers of all kinds; the store stays as it was.
+func checkFaultFirst(t *testing.T, ask func(s impl.Store, n, code int64)) {
+	t.Helper()
+	for _, s := range faultyStores() {
 		code := wantStoreFault(s)
 		if code == impl.OK {
 			t.Fatalf("%+v has no fault", s)
 		}
 		before := copyStore(s)
 		for _, n := range []int64{math.MinInt64, -1, 0, 1, 2, 10, 12, 20, 21, 200, 100001, math.MaxInt64} {
-			for _, r := range []impl.StoreResult{
-				impl.Prewrite(s, n, n, n, n, n, n), impl.Prewrite(s, 10, 15, 1, 1, 10, 10), impl.Prewrite(s, 1, n, 1, 1, -1, 10),
-				impl.CommitKey(s, n, n, n), impl.CommitKey(s, 21, 12, 13), impl.RollbackKey(s, n, n), impl.RollbackKey(s, 21, 12),
-			} {
-				checkStored(t, "a store with a fault", r, refuse(code))
-			}
-			if got := impl.GetAt(s, n, n); got != (impl.GetResult{Code: code}) {
-				t.Errorf("GetAt %d of %+v: %+v, want %d alone", n, s, got, code)
-			}
-			if got := impl.ScanAt(s, n, n, n); !equalScans(got, impl.ScanResult{Code: code}) {
-				t.Errorf("ScanAt %d of %+v: %+v, want %d alone", n, s, got, code)
-			}
-			if impl.BlockedAt(s, n, 100000) {
-				t.Errorf("BlockedAt %d of %+v", n, s)
-			}
+			ask(s, n, code)
 		}
 		if !equalStores(before, s) {
 			t.Errorf("%+v changed", s)
 		}
 	}
+}
+
+// A fault of the store comes first, ahead of all that is wrong with the numbers.
+func TestPhasesAskTheStore(t *testing.T) {
+	checkFaultFirst(t, func(s impl.Store, n, code int64) {
+		for _, r := range []impl.StoreResult{
+			impl.Prewrite(s, n, n, n, n, n, n), impl.Prewrite(s, 10, 15, 1, 1, 10, 10), impl.Prewrite(s, 1, n, 1, 1, -1, 10),
+			impl.CommitKey(s, n, n, n), impl.CommitKey(s, 21, 12, 13), impl.RollbackKey(s, n, n), impl.RollbackKey(s, 21, 12),
+		} {
+			checkStored(t, "a store with a fault", r, refuse(code))
+		}
+		if got := impl.GetAt(s, n, n); got != (impl.GetResult{Code: code}) {
+			t.Errorf("GetAt %d of %+v: %+v, want %d alone", n, s, got, code)
+		}
+		if got := impl.ScanAt(s, n, n, n); !equalScans(got, impl.ScanResult{Code: code}) {
+			t.Errorf("ScanAt %d of %+v: %+v, want %d alone", n, s, got, code)
+		}
+		if impl.BlockedAt(s, n, 100000) {
+			t.Errorf("BlockedAt %d of %+v", n, s)
+		}
+	})
 }
 
 // phaseStores are right stores of many shapes, some at their bounds.
@@ -926,6 +940,25 @@ func TestPhasesInRows(t *testing.T) {
 	}
 }
 
+// checkOwnMemory: a call leaves the store as it was, behind its length as well, and answers with memory that nobody else has.
+func checkOwnMemory(t *testing.T, name string, from impl.Store, call func(s impl.Store) impl.Store) {
+	t.Helper()
+	s, stays := roomy(from)
+	first, second := call(s), call(s)
+	kept := copyStore(second)
+	if !stays() {
+		t.Errorf("%s: the argument changed", name)
+	}
+	spoil(first)
+	if !stays() || !equalStores(second, kept) {
+		t.Errorf("%s: an answer shares memory", name)
+	}
+	spoil(s)
+	if !equalStores(second, kept) {
+		t.Errorf("%s: an answer changed with the argument", name)
+	}
+}
+
 // P1: arguments stay as they were, answers are new memory, also where nothing changes.
 func TestPhasesNewMemory(t *testing.T) {
 	for name, call := range map[string]func(s impl.Store) impl.Store{
@@ -947,20 +980,7 @@ func TestPhasesNewMemory(t *testing.T) {
 		"blocked":             func(s impl.Store) impl.Store { impl.BlockedAt(s, 20, 12); return impl.Store{} },
 		"scanned":             func(s impl.Store) impl.Store { impl.ScanAt(s, 0, 200, 11); return impl.Store{} },
 	} {
-		s, stays := roomy(plainStore())
-		first, second := call(s), call(s)
-		kept := copyStore(second)
-		if !stays() {
-			t.Errorf("%s: the argument changed", name)
-		}
-		spoil(first)
-		if !stays() || !equalStores(second, kept) {
-			t.Errorf("%s: an answer shares memory", name)
-		}
-		spoil(s)
-		if !equalStores(second, kept) {
-			t.Errorf("%s: an answer changed with the argument", name)
-		}
+		checkOwnMemory(t, name, plainStore(), call)
 	}
 	first, second := impl.ScanAt(plainStore(), 0, 200, 11), impl.ScanAt(plainStore(), 0, 200, 11)
 	for i := range first.Pairs[:cap(first.Pairs)] {
