@@ -184,15 +184,16 @@ func wantHistory(f impl.FsWorld) (told impl.HistoryResult) {
 	return told
 }
 
-// wantHistoryRight takes "no right one" for a start that has a fault, or none at all.
+// wantHistoryRight takes "no right one" for items with a code, or for no transaction at all; of a whole tree ApplyFs alone asks.
 func wantHistoryRight(f impl.FsWorld) bool {
 	if wantFsWorldFault(f) != impl.OK || len(f.World.Txns) == 0 {
 		return false
 	}
-	view := wantApply(nil, f.World.Txns[0].Items).Pairs
-	if wantFsFault(view) != impl.OK {
+	begun := wantApply(nil, f.World.Txns[0].Items)
+	if begun.Code != impl.OK {
 		return false
 	}
+	view := begun.Pairs
 	for _, d := range wantHistory(f).Dones {
 		run := f.Runs[d.Place]
 		got := wantApplyFs(view, run.Op)
@@ -995,32 +996,30 @@ func TestHistoryRight(t *testing.T) {
 	}
 }
 
-// The start is what the first transaction would have made; without a right one there is no right history.
+// The start is what the first transaction would have made: of a whole tree asks who does something to it, and nobody else.
 func TestHistoryRightOfTheFirst(t *testing.T) {
 	fresh, used := newFs(), usedFs()
 	checkRight(t, "new", fresh, true)
 	for _, c := range []struct {
-		name        string
-		right, runs bool // runs: so where there are any
-		change      func(f *impl.FsWorld)
+		name   string
+		runs   bool // so where there are any
+		change func(f *impl.FsWorld)
 	}{
-		{"as it was", true, true, func(f *impl.FsWorld) {}}, {"the next inode 5", true, false, func(f *impl.FsWorld) { f.World.Txns[0].Items[0].Value = 5 }}, {"the next inode 0", false, false, func(f *impl.FsWorld) { f.World.Txns[0].Items[0].Value = 0 }}, {"the next inode 11", false, false, func(f *impl.FsWorld) { f.World.Txns[0].Items[0].Value = 11 }},
-		{"the root is a file", false, false, func(f *impl.FsWorld) { f.World.Txns[0].Items[1].Value = 2001 }}, {"the root is nothing", false, false, func(f *impl.FsWorld) { f.World.Txns[0].Items[1].Value = 999 }}, {"no root", false, false, func(f *impl.FsWorld) { f.World.Txns[0].Items, f.World.Txns[0].At = f.World.Txns[0].Items[:1], 1 }},
-		{"the root is deleted", false, false, func(f *impl.FsWorld) { f.World.Txns[0].Items[1] = deleteItem(10) }}, {"all is locked alone", false, false, func(f *impl.FsWorld) { f.World.Txns[0].Items = items(lockItem(0), lockItem(10)) }}, {"a lock more", true, true, func(f *impl.FsWorld) { f.World.Txns[0].Items = append(f.World.Txns[0].Items, lockItem(25)) }},
-		{"a file more", true, false, func(f *impl.FsWorld) {
+		{"as it was", true, func(f *impl.FsWorld) {}}, {"the next inode 5", false, func(f *impl.FsWorld) { f.World.Txns[0].Items[0].Value = 5 }}, {"the next inode 0", false, func(f *impl.FsWorld) { f.World.Txns[0].Items[0].Value = 0 }}, {"the next inode 11", false, func(f *impl.FsWorld) { f.World.Txns[0].Items[0].Value = 11 }},
+		{"the root is a file", false, func(f *impl.FsWorld) { f.World.Txns[0].Items[1].Value = 2001 }}, {"the root is nothing", false, func(f *impl.FsWorld) { f.World.Txns[0].Items[1].Value = 999 }}, {"no root", false, func(f *impl.FsWorld) { f.World.Txns[0].Items, f.World.Txns[0].At = f.World.Txns[0].Items[:1], 1 }},
+		{"the root is deleted", false, func(f *impl.FsWorld) { f.World.Txns[0].Items[1] = deleteItem(10) }}, {"all is locked alone", false, func(f *impl.FsWorld) { f.World.Txns[0].Items = items(lockItem(0), lockItem(10)) }}, {"a lock more", true, func(f *impl.FsWorld) { f.World.Txns[0].Items = append(f.World.Txns[0].Items, lockItem(25)) }},
+		{"a file more", false, func(f *impl.FsWorld) {
 			f.World.Txns[0].Items = items(putItem(0, 2), putItem(10, 1000), putItem(11, 2001), putItem(25, 1))
 		}},
-		{"a file without an entry", false, false, func(f *impl.FsWorld) {
+		{"a file without an entry", false, func(f *impl.FsWorld) {
 			f.World.Txns[0].Items = items(putItem(0, 2), putItem(10, 1000), putItem(11, 2001))
 		}},
-		{"in another order", true, true, func(f *impl.FsWorld) { slices.Reverse(f.World.Txns[0].Items) }},
-		{"another state", true, true, func(f *impl.FsWorld) { f.World.Txns[0].State = impl.TxnLeft }},
+		{"in another order", true, func(f *impl.FsWorld) { slices.Reverse(f.World.Txns[0].Items) }},
+		{"another state", true, func(f *impl.FsWorld) { f.World.Txns[0].State = impl.TxnLeft }},
 	} {
-		checkRight(t, c.name, changedFs(fresh, c.change), c.right)
+		checkRight(t, c.name, changedFs(fresh, c.change), true)
 		checkRight(t, c.name+", used", changedFs(used, c.change), c.runs)
 	}
-	checkRight(t, "no transactions", impl.FsWorld{World: impl.NewWorld(1).World}, false)
-	checkRight(t, "it is not done", impl.FsWorld{World: impl.BeginWorld(impl.NewWorld(1).World, nil, impl.EmptyFs(1).Writes).World}, false)
 	checkRight(t, "another one is the first", changedFs(used, func(f *impl.FsWorld) {
 		f.World.Txns[0], f.World.Txns[1] = f.World.Txns[1], f.World.Txns[0]
 		f.Runs[0].Place = 0
@@ -1030,6 +1029,66 @@ func TestHistoryRightOfTheFirst(t *testing.T) {
 			t.Errorf("%s: the history is right", c.name)
 		}
 	}
+}
+
+// begunOf has a transaction for each list of items, in their order; none is a step further.
+func begunOf(lists ...[]impl.Item) impl.FsWorld {
+	w := impl.NewWorld(1).World
+	for _, writes := range lists {
+		w = impl.BeginWorld(w, nil, writes).World
+	}
+	return impl.FsWorld{World: w}
+}
+
+// doneOf has them done one behind the other.
+func doneOf(lists ...[]impl.Item) impl.FsWorld {
+	f := begunOf()
+	for _, writes := range lists {
+		f.World = impl.DriveWorld(impl.BeginWorld(f.World, nil, writes).World).World
+	}
+	return f
+}
+
+// Without a history just two things are left to be held against each other: what the first one's items make, and what there is.
+func TestHistoryRightWithoutAHistory(t *testing.T) {
+	whole, entry, locks := items(putItem(0, 1), putItem(10, 1000)), items(putItem(20, 1)), items(lockItem(0), lockItem(10))
+	gone := begunOf(whole)
+	gone.World.Txns[0].State = impl.TxnUndo
+	withRun := func(f impl.FsWorld, run impl.Run) impl.FsWorld {
+		return changedFs(f, func(f *impl.FsWorld) { f.Runs = append(f.Runs, run) })
+	}
+	for _, c := range []struct {
+		name  string
+		f     impl.FsWorld
+		right bool
+	}{
+		{"a whole tree", doneOf(whole), true}, {"a whole tree with a file", doneOf(items(putItem(0, 2), putItem(10, 1000), putItem(11, 2001), putItem(25, 1))), true},
+		{"an inode alone", doneOf(items(putItem(11, 1))), true}, {"an entry alone", doneOf(entry), true}, {"another entry alone", doneOf(items(putItem(50, 1))), true}, {"bytes alone", doneOf(items(putItem(189, 9999))), true}, {"the next inode alone", doneOf(items(putItem(0, 1))), true},
+		{"a root that is a file", doneOf(items(putItem(0, 1), putItem(10, 2001))), true}, {"a next inode that is none", doneOf(items(putItem(0, 11), putItem(10, 1000))), true}, {"a file without an entry", doneOf(items(putItem(0, 2), putItem(10, 1000), putItem(11, 2001))), true},
+		{"locks alone", doneOf(locks), true}, {"locks alone, that are not done", begunOf(locks), true}, {"a delete alone", doneOf(items(deleteItem(10))), true}, {"a delete alone, that is not done", begunOf(items(deleteItem(10))), true},
+		{"a whole tree that is not done", begunOf(whole), false}, {"an entry that is not done", begunOf(entry), false}, {"a whole tree that is taken back", impl.FsWorld{World: impl.DriveWorld(gone.World).World}, false}, {"a whole tree, left ahead of its Commit", leftFs(begunOf(whole), 0), false},
+		{"a second one that is not done", changedFs(doneOf(entry), func(f *impl.FsWorld) { f.World = impl.BeginWorld(f.World, nil, whole).World }), true}, {"a second one that puts the same", doneOf(entry, entry), true}, {"a second one that locks alone", doneOf(entry, items(lockItem(20))), true}, {"a second one that deletes what is not there", doneOf(entry, items(deleteItem(21))), true},
+		{"a second one that puts another value", doneOf(entry, items(putItem(20, 2))), false}, {"a second one that puts one more", doneOf(entry, items(putItem(21, 1))), false}, {"a second one that deletes it", doneOf(entry, items(deleteItem(20))), false}, {"a second one behind locks alone", doneOf(locks, entry), false}, {"the second one alone is done", stepped(begunOf(entry, items(putItem(21, 1))), 1, 4), false},
+		{"no transaction", begunOf(), false}, {"no transaction, and all behind a cut", changedFs(begunOf(), func(f *impl.FsWorld) { f.World = impl.CutWorld(f.World, 20).World }), false},
+		{"a run that does not count", withRun(changedFs(doneOf(entry), func(f *impl.FsWorld) { f.World = impl.BeginWorld(f.World, nil, whole).World }), impl.Run{Op: fsOp(1, 0, 0), Place: 1, Ts: 1}), true},
+	} {
+		if dones := impl.HistoryOf(c.f); dones.Code != impl.OK || len(dones.Dones) != 0 {
+			t.Errorf("%s: %+v is the history", c.name, dones)
+		}
+		checkRight(t, c.name, c.f, c.right)
+	}
+	look := impl.Run{Op: fsOp(8, 0, 0), Ts: 2, Reply: impl.ErrNone}
+	for _, place := range []int64{-1, 0} {
+		look.Place = place
+		checkRight(t, "one run that counts, of a whole tree", withRun(doneOf(whole), look), true)
+		for _, writes := range [][]impl.Item{items(putItem(11, 1)), entry, items(putItem(0, 1), putItem(10, 2001)), items(putItem(0, 11), putItem(10, 1000)), items(putItem(10, 1000)), locks} {
+			checkRight(t, "one run that counts, of no whole tree", withRun(doneOf(writes), look), false)
+		}
+		look.Reply = impl.OK
+		checkRight(t, "one run that counts, and found something else", withRun(doneOf(whole), look), false)
+		look.Reply = impl.ErrNone
+	}
+	checkRight(t, "one run that counts, without a transaction", withRun(changedFs(begunOf(), func(f *impl.FsWorld) { f.World.Oracle = oracle(9, 9) }), impl.Run{Op: fsOp(8, 0, 0), Place: -1, Ts: 2, Reply: impl.ErrDir}), false)
 }
 
 // What the stores have, and what the transactions have, bent in one place; all there is has to come of the history.
